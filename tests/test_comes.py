@@ -1,0 +1,305 @@
+"""Tests of whocomes.party.comes: promise 1, as far as it speaks of all calls and of comes."""
+
+import contextlib
+import inspect
+import io
+import itertools
+import unittest
+
+from whocomes.party import comes
+
+REFUSED = [-22]
+HIGHEST = 4294967295
+ALL_OF_8 = [guest for pair in itertools.combinations(range(8), 2) for guest in pair]
+
+
+def path(n):
+    """Pairs of n guests in a row, each of whom knows the next."""
+    return [guest for one in range(n - 1) for guest in (one, one + 1)]
+
+
+def ring(n):
+    """The row, closed by one pair more."""
+    return path(n) + [n - 1, 0]
+
+
+class FrozenList(list):
+    """A list that lets nothing be changed in it."""
+
+    def refuse(self, *args, **kwargs):
+        raise AssertionError("the list that was handed in was changed")
+
+    __setitem__ = __delitem__ = __iadd__ = __imul__ = refuse
+    append = extend = insert = pop = remove = clear = sort = reverse = refuse
+
+
+def comes_by_the_words(n, k, sure, pairs):
+    """The document's words over sets, to hold the program's answers against."""
+    friends = {guest: set() for guest in range(n)}
+    for one, other in zip(pairs[::2], pairs[1::2]):
+        friends[one].add(other)
+        friends[other].add(one)
+    coming = set(range(n))
+    rounds = 0
+    while True:
+        cancel = {g for g in coming if g not in sure and len(friends[g] & coming) < k}
+        if not cancel:
+            return [len(coming), sum(1 << g for g in coming), rounds]
+        coming -= cancel
+        rounds += 1
+
+
+def greatest_group(n, k, sure, pairs):
+    """The guests of all groups in which, with who is sure, each finds enough: as bits, without rounds."""
+    told = list(zip(pairs[::2], pairs[1::2]))
+    joined = 0
+    for bits in range(1 << n):
+        group = {g for g in range(n) if bits >> g & 1}
+        if sure <= group and all(
+            g in sure or sum((g, o) in told or (o, g) in told for o in group) >= k for g in group
+        ):
+            joined |= bits
+    return joined
+
+
+class OrdinaryInputs(unittest.TestCase):
+    def test_nobody_must_cancel(self):
+        self.assertEqual(comes(4, 1, 0, [0, 1, 2, 3]), [4, 15, 0])
+        self.assertEqual(comes(3, 2, 0, [0, 1, 1, 2, 2, 0]), [3, 7, 0])
+
+    def test_one_round(self):
+        self.assertEqual(comes(5, 1, 0, [0, 1, 3, 4]), [4, 27, 1])
+        self.assertEqual(comes(4, 2, 0, [0, 1, 1, 2, 2, 0, 2, 3]), [3, 7, 1])
+
+    def test_several_rounds_one_behind_another(self):
+        self.assertEqual(comes(5, 2, 0, [0, 1, 1, 2, 2, 0, 2, 3, 3, 4]), [3, 7, 2])
+        self.assertEqual(comes(4, 2, 0, path(4)), [0, 0, 2])
+        self.assertEqual(comes(7, 2, 0, [4, 5, 5, 6, 6, 4, 4, 3, 3, 2, 2, 1, 1, 0]), [3, 112, 4])
+
+    def test_all_of_a_round_cancel_at_once(self):
+        # Whoever cancels within a round is still counted on by the others of that round.
+        self.assertEqual(comes(4, 2, 8, path(4)), [1, 8, 3])
+        self.assertEqual(comes(4, 2, 1, path(4)), [1, 1, 3])
+
+    def test_who_comes_is_told_as_bits(self):
+        self.assertEqual(comes(8, 1, 0, [7, 5]), [2, 160, 1])
+        self.assertEqual(comes(6, 2, 0, [1, 3, 3, 5, 5, 1, 0, 2, 2, 4]), [3, 42, 2])
+
+    def test_some_are_sure_and_some_not(self):
+        self.assertEqual(comes(4, 2, 9, path(4)), [4, 15, 0])
+        self.assertEqual(comes(4, 2, 5, path(4)), [3, 7, 1])
+        self.assertEqual(comes(6, 2, 3, [0, 2, 1, 2, 2, 3, 1, 3, 4, 5]), [4, 15, 1])
+
+    def test_who_is_sure_stays_though_too_few_come(self):
+        self.assertEqual(comes(3, 2, 2, [0, 1, 1, 2]), [1, 2, 1])
+
+    def test_a_pair_told_again_counts_once(self):
+        self.assertEqual(comes(2, 2, 0, [0, 1, 0, 1]), [0, 0, 1])
+        self.assertEqual(comes(2, 2, 0, [0, 1, 1, 0, 0, 1]), [0, 0, 1])
+        self.assertEqual(comes(2, 1, 0, [1, 0, 0, 1]), [2, 3, 0])
+        self.assertEqual(comes(3, 2, 0, [0, 1, 1, 0, 2, 1, 1, 2]), [0, 0, 2])
+
+    def test_either_way_round_is_the_same(self):
+        self.assertEqual(comes(5, 2, 0, [1, 0, 2, 1, 0, 2, 3, 2, 4, 3]), [3, 7, 2])
+        self.assertEqual(comes(3, 1, 0, [2, 0]), comes(3, 1, 0, [0, 2]))
+
+    def test_the_order_of_the_pairs_is_the_same(self):
+        for order in itertools.permutations([(0, 1), (1, 2), (2, 0), (2, 3), (3, 4)]):
+            self.assertEqual(comes(5, 2, 0, [guest for pair in order for guest in pair]), [3, 7, 2])
+
+    def test_28_pairs_with_repeats(self):
+        self.assertEqual(comes(2, 1, 0, [0, 1] * 28), [2, 3, 0])
+        self.assertEqual(comes(3, 2, 0, [0, 1] * 27 + [1, 2]), [0, 0, 2])
+
+
+class Corners(unittest.TestCase):
+    def test_one_guest(self):
+        self.assertEqual(comes(1, 0, 0, []), [1, 1, 0])
+        self.assertEqual(comes(1, 1, 0, []), [0, 0, 1])
+        self.assertEqual(comes(1, 1, 1, []), [1, 1, 0])
+        self.assertEqual(comes(1, 8, 0, []), [0, 0, 1])
+
+    def test_k_of_0(self):
+        for n in range(1, 9):
+            self.assertEqual(comes(n, 0, 0, []), [n, (1 << n) - 1, 0])
+        self.assertEqual(comes(4, 0, 2, [0, 1, 2, 1]), [4, 15, 0])
+
+    def test_nobody_knows_anybody(self):
+        for n in range(1, 9):
+            self.assertEqual(comes(n, 1, 0, []), [0, 0, 1])
+        self.assertEqual(comes(8, 1, 144, []), [2, 144, 1])
+
+    def test_all_sure(self):
+        for n in range(1, 9):
+            everybody = (1 << n) - 1
+            for k in range(9):
+                self.assertEqual(comes(n, k, everybody, []), [n, everybody, 0])
+        self.assertEqual(comes(4, 8, 15, path(4)), [4, 15, 0])
+
+    def test_one_sure_who_knows_nobody(self):
+        self.assertEqual(comes(3, 1, 4, [0, 1]), [3, 7, 0])
+        self.assertEqual(comes(3, 2, 4, [0, 1]), [1, 4, 1])
+
+    def test_a_ring_with_k_of_2(self):
+        for n in range(3, 9):
+            self.assertEqual(comes(n, 2, 0, ring(n)), [n, (1 << n) - 1, 0])
+
+    def test_a_ring_with_one_pair_less(self):
+        for n in range(3, 9):
+            self.assertEqual(comes(n, 2, 0, path(n)), [0, 0, (n + 1) // 2])
+        self.assertEqual(comes(6, 2, 0, ring(6)[2:]), [0, 0, 3])
+
+    def test_a_ring_with_k_of_3(self):
+        self.assertEqual(comes(8, 3, 0, ring(8)), [0, 0, 1])
+
+    def test_k_of_8(self):
+        self.assertEqual(comes(8, 8, 0, ALL_OF_8), [0, 0, 1])
+        self.assertEqual(comes(8, 8, 1, ALL_OF_8), [1, 1, 1])
+        self.assertEqual(comes(8, 8, 127, ALL_OF_8), [7, 127, 1])
+        self.assertEqual(comes(8, 8, 255, ALL_OF_8), [8, 255, 0])
+
+    def test_all_28_pairs(self):
+        self.assertEqual(comes(8, 7, 0, ALL_OF_8), [8, 255, 0])
+        self.assertEqual(comes(8, 7, 0, ALL_OF_8[:-2]), [0, 0, 2])
+
+
+class WrongInputs(unittest.TestCase):
+    def assert_refused(self, n, k, sure_bits, pairs):
+        with self.subTest(n=n, k=k, sure_bits=sure_bits, pairs=pairs):
+            self.assertEqual(comes(n, k, sure_bits, pairs), REFUSED)
+
+    def test_how_many_guests(self):
+        for n in (0, 9, 10, 255, 256, HIGHEST):
+            self.assert_refused(n, 1, 0, [])
+            self.assert_refused(n, 0, 0, [0, 1])
+
+    def test_an_odd_list(self):
+        self.assert_refused(3, 1, 0, [0])
+        self.assert_refused(3, 1, 0, [0, 1, 2])
+        self.assert_refused(3, 1, 0, [0, 1] * 27 + [0])
+        self.assert_refused(3, 1, 0, [0, 1] * 28 + [0])
+        self.assert_refused(3, 1, 0, [0, 1] * 29 + [0])
+
+    def test_more_than_28_pairs(self):
+        self.assert_refused(2, 1, 0, [0, 1] * 29)
+        self.assert_refused(2, 1, 0, [0, 1] * 30)
+        self.assert_refused(8, 1, 0, ALL_OF_8 + [0, 1])
+
+    def test_a_guest_with_themselves(self):
+        self.assert_refused(1, 0, 0, [0, 0])
+        self.assert_refused(3, 1, 0, [2, 2])
+        self.assert_refused(3, 1, 0, [0, 1, 1, 1])
+        self.assert_refused(3, 1, 0, [1, 1, 0, 1])
+
+    def test_a_guest_who_is_not_there(self):
+        for n in range(1, 9):
+            for stranger in (n, n + 1, 255):
+                self.assert_refused(n, 1, 0, [0, stranger])
+                self.assert_refused(n, 1, 0, [stranger, 0])
+        self.assert_refused(3, 1, 0, [0, 1, 1, 2, 2, 3])
+        self.assert_refused(3, 1, 0, [0, 1] * 27 + [1, 255])
+        self.assert_refused(3, 1, 0, [255, 254])
+
+    def test_k_above_8(self):
+        for k in (9, 10, 255, 256, HIGHEST):
+            self.assert_refused(8, k, 0, ALL_OF_8)
+            self.assert_refused(1, k, 1, [])
+
+    def test_sure_with_a_bit_of_no_guest(self):
+        for n in range(1, 9):
+            everybody = (1 << n) - 1
+            for bits in (1 << n, everybody + (1 << n), 1 + (1 << 31), HIGHEST):
+                self.assert_refused(n, 1, bits, [])
+            self.assertEqual(comes(n, 1, everybody, []), [n, everybody, 0])
+
+    def test_several_wrongs_are_answered_once(self):
+        self.assert_refused(0, 9, 1, [0])
+        self.assert_refused(HIGHEST, HIGHEST, HIGHEST, [255] * 60)
+
+
+class AgainstTheWords(unittest.TestCase):
+    def test_all_parties_of_up_to_four(self):
+        for n in range(1, 5):
+            possible = list(itertools.combinations(range(n), 2))
+            for told in range(1 << len(possible)):
+                pairs = [g for i, pair in enumerate(possible) if told >> i & 1 for g in pair]
+                for k, bits in itertools.product(range(n + 1), range(1 << n)):
+                    sure = {g for g in range(n) if bits >> g & 1}
+                    answer = comes(n, k, bits, pairs)
+                    self.assertEqual(answer, comes_by_the_words(n, k, sure, pairs), (n, k, bits, pairs))
+                    self.assertEqual(answer[1], greatest_group(n, k, sure, pairs), (n, k, bits, pairs))
+
+    def test_many_parties_of_up_to_eight(self):
+        state = 1
+        for turn in range(3000):
+            drawn = []
+            for step in range(60):
+                state = (state * 1103515245 + 12345) % (1 << 31)
+                drawn.append(state >> 16)
+            n, k, bits = 2 + drawn[0] % 7, drawn[1] % 5, drawn[2] & drawn[3] & drawn[4]
+            bits %= 1 << n
+            pairs = []
+            for place in range(drawn[5] % 28):
+                one = drawn[6 + place] % n
+                pairs += [one, (one + 1 + drawn[33 + place] % (n - 1)) % n]
+            sure = {g for g in range(n) if bits >> g & 1}
+            self.assertEqual(
+                comes(n, k, bits, pairs), comes_by_the_words(n, k, sure, pairs), (n, k, bits, pairs)
+            )
+
+
+class TheInterface(unittest.TestCase):
+    GIVEN = (
+        (5, 2, 0, [0, 1, 1, 2, 2, 0, 2, 3, 3, 4]),
+        (4, 2, 9, path(4)),
+        (1, 0, 0, []),
+        (8, 8, 255, ALL_OF_8),
+        (3, 1, 0, [0, 1, 2]),
+        (9, 1, 0, [0, 1]),
+        (3, 9, 0, [0, 1]),
+        (3, 1, 8, [0, 1]),
+        (3, 1, 0, [0, 3]),
+        (2, 1, 0, [0, 1] * 29),
+    )
+
+    def test_names_and_no_defaults(self):
+        parameters = inspect.signature(comes).parameters.values()
+        self.assertEqual([p.name for p in parameters], ["n", "k", "sure_bits", "pairs"])
+        self.assertTrue(all(p.default is p.empty for p in parameters))
+        self.assertEqual(comes(n=3, k=1, sure_bits=0, pairs=[0, 1]), [2, 3, 1])
+
+    def test_one_list_of_whole_numbers(self):
+        for n, k, sure_bits, pairs in self.GIVEN:
+            answer = comes(n, k, sure_bits, pairs)
+            self.assertIs(type(answer), list)
+            self.assertTrue(all(type(number) is int for number in answer), answer)
+            self.assertEqual(len(answer), 1 if answer[0] < 0 else 3)
+
+    def test_what_is_handed_in_is_not_changed(self):
+        for n, k, sure_bits, pairs in self.GIVEN:
+            handed = FrozenList(pairs)
+            self.assertEqual(comes(n, k, sure_bits, handed), comes(n, k, sure_bits, pairs))
+            self.assertEqual(list(handed), pairs)
+        pairs = [2, 1, 0, 1, 1, 2, 0, 1]
+        comes(3, 2, 4, pairs)
+        self.assertEqual(pairs, [2, 1, 0, 1, 1, 2, 0, 1])
+
+    def test_nothing_is_kept_from_one_call_to_the_next(self):
+        first = [comes(n, k, sure_bits, list(pairs)) for n, k, sure_bits, pairs in self.GIVEN]
+        for before in self.GIVEN:
+            for (n, k, sure_bits, pairs), answer in zip(self.GIVEN, first):
+                # Whoever changes an answer must not change the next one.
+                comes(*before).append(7)
+                self.assertEqual(comes(n, k, sure_bits, pairs), answer)
+                self.assertEqual(comes(n, k, sure_bits, pairs), answer)
+
+    def test_nothing_is_printed(self):
+        out, err = io.StringIO(), io.StringIO()
+        with contextlib.redirect_stdout(out), contextlib.redirect_stderr(err):
+            for given in self.GIVEN:
+                comes(*given)
+        self.assertEqual(out.getvalue() + err.getvalue(), "")
+
+
+if __name__ == "__main__":
+    unittest.main()

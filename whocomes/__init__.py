@@ -1,0 +1,1 @@
+"""Who comes: guests who come only if enough of those they know do."""

@@ -1,0 +1,75 @@
+"""Who is left when guests cancel because too few of those they know come."""
+
+MOST_GUESTS = 8
+MOST_PAIRS = 28
+MOST_ASKED = 8
+REFUSAL = -22
+
+
+def pairs_are_right(n, pairs):
+    """Tell whether pairs holds at most 28 pairs, each of two different ones of n guests."""
+    if len(pairs) % 2 == 1 or len(pairs) > 2 * MOST_PAIRS:
+        return False
+    for place in range(0, len(pairs), 2):
+        one = pairs[place]
+        other = pairs[place + 1]
+        if one == other or one >= n or other >= n:
+            return False
+    return True
+
+
+def party_is_right(n, pairs):
+    """Tell whether there are 1 to 8 guests, and the pairs are as told."""
+    return 1 <= n <= MOST_GUESTS and pairs_are_right(n, pairs)
+
+
+def terms_are_right(n, k, sure_bits):
+    """Tell whether k is at most 8, and each bit of sure_bits is one of n guests."""
+    return k <= MOST_ASKED and sure_bits >> n == 0
+
+
+def how_many(bits):
+    """Count the guests in bits."""
+    return sum([(bits >> guest) & 1 for guest in range(MOST_GUESTS)])
+
+
+def has_guest(bits, guest):
+    """Tell whether guest is in bits."""
+    return (bits >> guest) & 1 == 1
+
+
+def acquaintances(n, pairs):
+    """Give for each guest, as bits, those whom they know."""
+    known = [0 for guest in range(n)]
+    for place in range(0, len(pairs), 2):
+        one = pairs[place]
+        other = pairs[place + 1]
+        # Joined as bits, so a pair that's told again counts once.
+        known[one] = known[one] | (1 << other)
+        known[other] = known[other] | (1 << one)
+    return known
+
+
+def who_cannot_come(k, sure_bits, known, coming):
+    """Give, as bits, those of coming who aren't sure and know fewer than k of coming."""
+    leaving = 0
+    for guest in range(len(known)):
+        if has_guest(coming, guest) and not has_guest(sure_bits, guest):
+            if how_many(known[guest] & coming) < k:
+                leaving = leaving | (1 << guest)
+    return leaving
+
+
+def comes(n, k, sure_bits, pairs):
+    """Answer how many come in the end, who (as bits), and behind how many rounds."""
+    if not party_is_right(n, pairs) or not terms_are_right(n, k, sure_bits):
+        return [REFUSAL]
+    known = acquaintances(n, pairs)
+    coming = (1 << n) - 1
+    rounds = 0
+    leaving = who_cannot_come(k, sure_bits, known, coming)
+    while leaving > 0:
+        coming = coming - leaving
+        rounds = rounds + 1
+        leaving = who_cannot_come(k, sure_bits, known, coming)
+    return [how_many(coming), coming, rounds]
