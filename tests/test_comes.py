@@ -6,31 +6,9 @@ import io
 import itertools
 import unittest
 
+from parties import ALL_OF_8, HIGHEST, REFUSED, FrozenList
+from parties import drawn_parties, guests_of, parties_of_up_to_four, path, ring
 from whocomes.party import comes
-
-REFUSED = [-22]
-HIGHEST = 4294967295
-ALL_OF_8 = [guest for pair in itertools.combinations(range(8), 2) for guest in pair]
-
-
-def path(n):
-    """Pairs of n guests in a row, each of whom knows the next."""
-    return [guest for one in range(n - 1) for guest in (one, one + 1)]
-
-
-def ring(n):
-    """The row, closed by one pair more."""
-    return path(n) + [n - 1, 0]
-
-
-class FrozenList(list):
-    """A list that lets nothing be changed in it."""
-
-    def refuse(self, *args, **kwargs):
-        raise AssertionError("the list that was handed in was changed")
-
-    __setitem__ = __delitem__ = __iadd__ = __imul__ = refuse
-    append = extend = insert = pop = remove = clear = sort = reverse = refuse
 
 
 def comes_by_the_words(n, k, sure, pairs):
@@ -219,32 +197,16 @@ class WrongInputs(unittest.TestCase):
 
 class AgainstTheWords(unittest.TestCase):
     def test_all_parties_of_up_to_four(self):
-        for n in range(1, 5):
-            possible = list(itertools.combinations(range(n), 2))
-            for told in range(1 << len(possible)):
-                pairs = [g for i, pair in enumerate(possible) if told >> i & 1 for g in pair]
-                for k, bits in itertools.product(range(n + 1), range(1 << n)):
-                    sure = {g for g in range(n) if bits >> g & 1}
-                    answer = comes(n, k, bits, pairs)
-                    self.assertEqual(answer, comes_by_the_words(n, k, sure, pairs), (n, k, bits, pairs))
-                    self.assertEqual(answer[1], greatest_group(n, k, sure, pairs), (n, k, bits, pairs))
+        for n, k, bits, pairs in parties_of_up_to_four():
+            sure = guests_of(bits)
+            answer = comes(n, k, bits, pairs)
+            self.assertEqual(answer, comes_by_the_words(n, k, sure, pairs), (n, k, bits, pairs))
+            self.assertEqual(answer[1], greatest_group(n, k, sure, pairs), (n, k, bits, pairs))
 
     def test_many_parties_of_up_to_eight(self):
-        state = 1
-        for turn in range(3000):
-            drawn = []
-            for step in range(60):
-                state = (state * 1103515245 + 12345) % (1 << 31)
-                drawn.append(state >> 16)
-            n, k, bits = 2 + drawn[0] % 7, drawn[1] % 5, drawn[2] & drawn[3] & drawn[4]
-            bits %= 1 << n
-            pairs = []
-            for place in range(drawn[5] % 28):
-                one = drawn[6 + place] % n
-                pairs += [one, (one + 1 + drawn[33 + place] % (n - 1)) % n]
-            sure = {g for g in range(n) if bits >> g & 1}
+        for n, k, bits, pairs in drawn_parties(3000):
             self.assertEqual(
-                comes(n, k, bits, pairs), comes_by_the_words(n, k, sure, pairs), (n, k, bits, pairs)
+                comes(n, k, bits, pairs), comes_by_the_words(n, k, guests_of(bits), pairs), (n, k, bits, pairs)
             )
 
 

@@ -24,10 +24,11 @@ class ThePackage(unittest.TestCase):
                 if isinstance(node, ast.Name):
                     self.assertNotIn(node.id, ("print", "open", "input", "__import__", "exec", "eval"), file.name)
 
-    def test_the_function_lies_in_the_file_that_its_name_tells(self):
-        from whocomes.party import comes
+    def test_each_function_lies_in_the_file_that_its_name_tells(self):
+        from whocomes.party import cancels, comes
 
         self.assertEqual((comes.__module__, comes.__name__), ("whocomes.party", "comes"))
+        self.assertEqual((cancels.__module__, cancels.__name__), ("whocomes.party", "cancels"))
 
 
 if __name__ == "__main__":

@@ -38,6 +38,11 @@ def has_guest(bits, guest):
     return (bits >> guest) & 1 == 1
 
 
+def least_guest(bits):
+    """Give the guest with the least number in bits, which hold at least one."""
+    return min([guest for guest in range(MOST_GUESTS) if has_guest(bits, guest)])
+
+
 def acquaintances(n, pairs):
     """Give for each guest, as bits, those whom they know."""
     known = [0 for guest in range(n)]
@@ -73,3 +78,20 @@ def comes(n, k, sure_bits, pairs):
         rounds = rounds + 1
         leaving = who_cannot_come(k, sure_bits, known, coming)
     return [how_many(coming), coming, rounds]
+
+
+def cancels(n, k, sure_bits, pairs):
+    """Answer how many cancel, one by one, and behind it these, in that order."""
+    if not party_is_right(n, pairs) or not terms_are_right(n, k, sure_bits):
+        return [REFUSAL]
+    known = acquaintances(n, pairs)
+    coming = (1 << n) - 1
+    cancelled = []
+    leaving = who_cannot_come(k, sure_bits, known, coming)
+    while leaving > 0:
+        # One alone, and then all are looked at anew: a lesser guest may be next.
+        guest = least_guest(leaving)
+        cancelled.append(guest)
+        coming = coming - (1 << guest)
+        leaving = who_cannot_come(k, sure_bits, known, coming)
+    return [len(cancelled)] + cancelled

@@ -1,0 +1,58 @@
+"""Parties that the tests of several functions share, and a list that lets nothing be changed in it."""
+
+import itertools
+
+REFUSED = [-22]
+HIGHEST = 4294967295
+ALL_OF_8 = [guest for pair in itertools.combinations(range(8), 2) for guest in pair]
+
+
+def path(n):
+    """Pairs of n guests in a row, each of whom knows the next."""
+    return [guest for one in range(n - 1) for guest in (one, one + 1)]
+
+
+def ring(n):
+    """The row, closed by one pair more."""
+    return path(n) + [n - 1, 0]
+
+
+def guests_of(bits):
+    """The guests in bits, as a set."""
+    return {guest for guest in range(8) if bits >> guest & 1}
+
+
+class FrozenList(list):
+    """A list that lets nothing be changed in it."""
+
+    def refuse(self, *args, **kwargs):
+        raise AssertionError("the list that was handed in was changed")
+
+    __setitem__ = __delitem__ = __iadd__ = __imul__ = refuse
+    append = extend = insert = pop = remove = clear = sort = reverse = refuse
+
+
+def parties_of_up_to_four():
+    """Every n of 1 to 4 with every choice of pairs, every k up to n and everybody who may be sure."""
+    for n in range(1, 5):
+        possible = list(itertools.combinations(range(n), 2))
+        for told in range(1 << len(possible)):
+            pairs = [g for i, pair in enumerate(possible) if told >> i & 1 for g in pair]
+            for k, bits in itertools.product(range(n + 1), range(1 << n)):
+                yield n, k, bits, pairs
+
+
+def drawn_parties(count):
+    """So many parties of 2 to 8 guests, always the same ones, with pairs told again and either way round."""
+    state = 1
+    for turn in range(count):
+        drawn = []
+        for step in range(62):
+            state = (state * 1103515245 + 12345) % (1 << 31)
+            drawn.append(state >> 16)
+        n, k, bits = 2 + drawn[0] % 7, drawn[1] % 5, drawn[2] & drawn[3] & drawn[4]
+        pairs = []
+        for place in range(drawn[5] % 29):
+            one = drawn[6 + place] % n
+            pairs += [one, (one + 1 + drawn[34 + place] % (n - 1)) % n]
+        yield n, k, bits % (1 << n), pairs
