@@ -22,6 +22,22 @@ def guests_of(bits):
     return {guest for guest in range(8) if bits >> guest & 1}
 
 
+def pairs_apart(pairs):
+    """The pairs, each counted once, as a set of sets of two guests."""
+    return {frozenset(pair) for pair in zip(pairs[::2], pairs[1::2])}
+
+
+def fewest_known_within(group, pairs):
+    """Of all in the group, as a set, the fewest of the group whom one of them knows."""
+    within = [pair for pair in pairs_apart(pairs) if pair <= group]
+    return min(sum(guest in pair for pair in within) for guest in group)
+
+
+def groups_of(n):
+    """Every group of n guests but the empty one, as a set."""
+    return [guests_of(bits) for bits in range(1, 1 << n)]
+
+
 class FrozenList(list):
     """A list that lets nothing be changed in it."""
 
@@ -56,3 +72,19 @@ def drawn_parties(count):
             one = drawn[6 + place] % n
             pairs += [one, (one + 1 + drawn[34 + place] % (n - 1)) % n]
         yield n, k, bits % (1 << n), pairs
+
+
+def told_among_up_to_five():
+    """Every n of 1 to 5 with every choice of pairs, each told once."""
+    for n in range(1, 6):
+        possible = list(itertools.combinations(range(n), 2))
+        for told in range(1 << len(possible)):
+            yield n, [g for i, pair in enumerate(possible) if told >> i & 1 for g in pair]
+
+
+def drawn_pairs(count):
+    """The pairs of so many drawn parties, as drawn, and the other way about: all that they leave out."""
+    for n, k, bits, pairs in drawn_parties(count):
+        apart = pairs_apart(pairs)
+        yield n, pairs
+        yield n, [g for pair in itertools.combinations(range(n), 2) if set(pair) not in apart for g in pair]

@@ -1,13 +1,10 @@
 """Tests of whocomes.party.cancels: promise 1, as far as it speaks of all calls and of cancels; of promise 3, orders."""
 
-import contextlib
-import inspect
-import io
 import itertools
 import unittest
 
-from parties import ALL_OF_8, HIGHEST, REFUSED, FrozenList
-from parties import drawn_parties, guests_of, parties_of_up_to_four, path, ring
+from every_function import InterfaceWithTerms, WrongPairs, WrongTerms
+from parties import ALL_OF_8, drawn_parties, guests_of, parties_of_up_to_four, path, ring
 from whocomes.party import cancels, comes
 
 
@@ -145,59 +142,9 @@ class Corners(unittest.TestCase):
         self.assertEqual(cancels(8, 7, 0, ALL_OF_8), [0])
 
 
-class WrongInputs(unittest.TestCase):
-    def assert_refused(self, n, k, sure_bits, pairs):
-        with self.subTest(n=n, k=k, sure_bits=sure_bits, pairs=pairs):
-            self.assertEqual(cancels(n, k, sure_bits, pairs), REFUSED)
-
-    def test_how_many_guests(self):
-        for n in (0, 9, 10, 255, 256, HIGHEST):
-            self.assert_refused(n, 1, 0, [])
-            self.assert_refused(n, 0, 0, [0, 1])
-
-    def test_an_odd_list(self):
-        self.assert_refused(3, 1, 0, [0])
-        self.assert_refused(3, 1, 0, [0, 1, 2])
-        self.assert_refused(3, 1, 0, [0, 1] * 27 + [0])
-        self.assert_refused(3, 1, 0, [0, 1] * 28 + [0])
-        self.assert_refused(3, 1, 0, [0, 1] * 29 + [0])
-
-    def test_more_than_28_pairs(self):
-        self.assert_refused(2, 1, 0, [0, 1] * 29)
-        self.assert_refused(2, 1, 0, [0, 1] * 30)
-        self.assert_refused(8, 1, 0, ALL_OF_8 + [0, 1])
-
-    def test_a_guest_with_themselves(self):
-        self.assert_refused(1, 0, 0, [0, 0])
-        self.assert_refused(3, 1, 0, [2, 2])
-        self.assert_refused(3, 1, 0, [0, 1, 1, 1])
-        self.assert_refused(3, 1, 0, [1, 1, 0, 1])
-
-    def test_a_guest_who_is_not_there(self):
-        for n in range(1, 9):
-            for stranger in (n, n + 1, 255):
-                self.assert_refused(n, 1, 0, [0, stranger])
-                self.assert_refused(n, 1, 0, [stranger, 0])
-        self.assert_refused(3, 1, 0, [0, 1, 1, 2, 2, 3])
-        self.assert_refused(3, 1, 0, [0, 1] * 27 + [1, 255])
-        self.assert_refused(3, 1, 0, [255, 254])
-
-    def test_k_above_8(self):
-        for k in (9, 10, 255, 256, HIGHEST):
-            self.assert_refused(8, k, 0, ALL_OF_8)
-            self.assert_refused(1, k, 1, [])
-
-    def test_sure_with_a_bit_of_no_guest(self):
-        for n in range(1, 9):
-            everybody = (1 << n) - 1
-            for bits in (1 << n, everybody + (1 << n), 1 + (1 << 31), HIGHEST):
-                self.assert_refused(n, 1, bits, [])
-                self.assert_refused(n, 0, bits, [])
-            self.assertEqual(cancels(n, 1, everybody, []), [0])
-
-    def test_several_wrongs_are_answered_once(self):
-        self.assert_refused(0, 9, 1, [0])
-        self.assert_refused(HIGHEST, HIGHEST, HIGHEST, [255] * 60)
+class WrongInputs(WrongTerms, WrongPairs, unittest.TestCase):
+    def answer(self, n, k, sure_bits, pairs):
+        return cancels(n, k, sure_bits, pairs)
 
 
 class AgainstTheWords(unittest.TestCase):
@@ -233,59 +180,11 @@ class InWhateverOrder(unittest.TestCase):
                 self.assertEqual(sorted(other), gone, (n, k, bits, pairs, list(order)))
 
 
-class TheInterface(unittest.TestCase):
-    GIVEN = (
-        (5, 2, 0, [0, 1, 1, 2, 2, 0, 2, 3, 3, 4]),
-        (4, 2, 9, path(4)),
-        (4, 2, 0, path(4)),
-        (1, 0, 0, []),
-        (8, 8, 0, ALL_OF_8),
-        (3, 1, 0, [0, 1, 2]),
-        (9, 1, 0, [0, 1]),
-        (3, 9, 0, [0, 1]),
-        (3, 1, 8, [0, 1]),
-        (3, 1, 0, [0, 3]),
-        (2, 1, 0, [0, 1] * 29),
-    )
+class TheInterface(InterfaceWithTerms, unittest.TestCase):
+    call = staticmethod(cancels)
 
-    def test_names_and_no_defaults(self):
-        parameters = inspect.signature(cancels).parameters.values()
-        self.assertEqual([p.name for p in parameters], ["n", "k", "sure_bits", "pairs"])
-        self.assertTrue(all(p.default is p.empty for p in parameters))
-        self.assertEqual(cancels(n=3, k=1, sure_bits=0, pairs=[0, 1]), [1, 2])
-
-    def test_one_list_of_whole_numbers(self):
-        for n, k, sure_bits, pairs in self.GIVEN:
-            answer = cancels(n, k, sure_bits, pairs)
-            self.assertIs(type(answer), list)
-            self.assertTrue(all(type(number) is int for number in answer), answer)
-            self.assertEqual(len(answer), 1 if answer[0] < 0 else 1 + answer[0])
-
-    def test_what_is_handed_in_is_not_changed(self):
-        for n, k, sure_bits, pairs in self.GIVEN:
-            handed = FrozenList(pairs)
-            self.assertEqual(cancels(n, k, sure_bits, handed), cancels(n, k, sure_bits, pairs))
-            self.assertEqual(list(handed), pairs)
-        pairs = [2, 1, 0, 1, 1, 2, 0, 1]
-        cancels(3, 2, 4, pairs)
-        self.assertEqual(pairs, [2, 1, 0, 1, 1, 2, 0, 1])
-
-    def test_nothing_is_kept_from_one_call_to_the_next(self):
-        first = [cancels(n, k, sure_bits, list(pairs)) for n, k, sure_bits, pairs in self.GIVEN]
-        for before in self.GIVEN:
-            for (n, k, sure_bits, pairs), answer in zip(self.GIVEN, first):
-                # Whoever changes an answer must not change the next one.
-                cancels(*before).append(7)
-                comes(*before).append(7)
-                self.assertEqual(cancels(n, k, sure_bits, pairs), answer)
-                self.assertEqual(cancels(n, k, sure_bits, pairs), answer)
-
-    def test_nothing_is_printed(self):
-        out, err = io.StringIO(), io.StringIO()
-        with contextlib.redirect_stdout(out), contextlib.redirect_stderr(err):
-            for given in self.GIVEN:
-                cancels(*given)
-        self.assertEqual(out.getvalue() + err.getvalue(), "")
+    def numbers_behind(self, first):
+        return first
 
 
 if __name__ == "__main__":

@@ -5,8 +5,10 @@ import pathlib
 import unittest
 
 import whocomes
+from whocomes import party
 
 FOLDER = pathlib.Path(whocomes.__file__).parent
+FUNCTIONS = ("comes", "cancels", "depth")
 
 
 class ThePackage(unittest.TestCase):
@@ -25,10 +27,9 @@ class ThePackage(unittest.TestCase):
                     self.assertNotIn(node.id, ("print", "open", "input", "__import__", "exec", "eval"), file.name)
 
     def test_each_function_lies_in_the_file_that_its_name_tells(self):
-        from whocomes.party import cancels, comes
-
-        self.assertEqual((comes.__module__, comes.__name__), ("whocomes.party", "comes"))
-        self.assertEqual((cancels.__module__, cancels.__name__), ("whocomes.party", "cancels"))
+        for name in FUNCTIONS:
+            function = getattr(party, name)
+            self.assertEqual((function.__module__, function.__name__), ("whocomes.party", name))
 
 
 if __name__ == "__main__":

@@ -3,6 +3,7 @@
 MOST_GUESTS = 8
 MOST_PAIRS = 28
 MOST_ASKED = 8
+NOBODY = 0
 REFUSAL = -22
 
 
@@ -65,19 +66,27 @@ def who_cannot_come(k, sure_bits, known, coming):
     return leaving
 
 
+def left_by_rounds(k, sure_bits, known):
+    """Give, as bits, all guests, and behind them who is left behind each round."""
+    left = [(1 << len(known)) - 1]
+    leaving = who_cannot_come(k, sure_bits, known, left[-1])
+    while leaving > 0:
+        left.append(left[-1] - leaving)
+        leaving = who_cannot_come(k, sure_bits, known, left[-1])
+    return left
+
+
+def who_comes(k, sure_bits, known):
+    """Give, as bits, who comes in the end."""
+    return left_by_rounds(k, sure_bits, known)[-1]
+
+
 def comes(n, k, sure_bits, pairs):
     """Answer how many come in the end, who (as bits), and behind how many rounds."""
     if not party_is_right(n, pairs) or not terms_are_right(n, k, sure_bits):
         return [REFUSAL]
-    known = acquaintances(n, pairs)
-    coming = (1 << n) - 1
-    rounds = 0
-    leaving = who_cannot_come(k, sure_bits, known, coming)
-    while leaving > 0:
-        coming = coming - leaving
-        rounds = rounds + 1
-        leaving = who_cannot_come(k, sure_bits, known, coming)
-    return [how_many(coming), coming, rounds]
+    left = left_by_rounds(k, sure_bits, acquaintances(n, pairs))
+    return [how_many(left[-1]), left[-1], len(left) - 1]
 
 
 def cancels(n, k, sure_bits, pairs):
@@ -95,3 +104,16 @@ def cancels(n, k, sure_bits, pairs):
         coming = coming - (1 << guest)
         leaving = who_cannot_come(k, sure_bits, known, coming)
     return [len(cancelled)] + cancelled
+
+
+def depth(n, pairs):
+    """Answer the greatest k with which, none being sure, somebody comes; then who, as bits."""
+    if not party_is_right(n, pairs):
+        return [REFUSAL]
+    known = acquaintances(n, pairs)
+    asked = MOST_ASKED
+    coming = who_comes(asked, NOBODY, known)
+    while coming == NOBODY and asked > 0:
+        asked = asked - 1
+        coming = who_comes(asked, NOBODY, known)
+    return [asked, coming]
