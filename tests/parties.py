@@ -22,6 +22,29 @@ def guests_of(bits):
     return {guest for guest in range(8) if bits >> guest & 1}
 
 
+def friends_among(n, pairs):
+    """For each of n guests those whom they know, as a set."""
+    friends = [set() for guest in range(n)]
+    for one, other in zip(pairs[::2], pairs[1::2]):
+        friends[one].add(other)
+        friends[other].add(one)
+    return friends
+
+
+def groups_that_could_come(n, k, sure, pairs):
+    """Every group, as a set, in which each is sure or finds enough within it: without any cancelling."""
+    friends = friends_among(n, pairs)
+    return [
+        group for group in [set()] + groups_of(n)
+        if all(guest in sure or len(friends[guest] & group) >= k for guest in group)
+    ]
+
+
+def all_who_could_come(n, k, sure, pairs):
+    """The guests of all those groups, as a set."""
+    return set().union(*groups_that_could_come(n, k, sure, pairs))
+
+
 def pairs_apart(pairs):
     """The pairs, each counted once, as a set of sets of two guests."""
     return {frozenset(pair) for pair in zip(pairs[::2], pairs[1::2])}

@@ -4,16 +4,13 @@ import itertools
 import unittest
 
 from every_function import InterfaceWithTerms, WrongPairs, WrongTerms
-from parties import ALL_OF_8, drawn_parties, guests_of, parties_of_up_to_four, path, ring
+from parties import ALL_OF_8, drawn_parties, friends_among, guests_of, parties_of_up_to_four, path, ring
 from whocomes.party import cancels, comes
 
 
 def cancels_in_order(n, k, sure, pairs, order):
     """Over sets, by the document's words: of those who can't come, the one who is first in order is always next."""
-    friends = {guest: set() for guest in range(n)}
-    for one, other in zip(pairs[::2], pairs[1::2]):
-        friends[one].add(other)
-        friends[other].add(one)
+    friends = friends_among(n, pairs)
     coming = set(range(n))
     gone = []
     while True:

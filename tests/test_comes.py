@@ -4,16 +4,14 @@ import itertools
 import unittest
 
 from every_function import InterfaceWithTerms, WrongPairs, WrongTerms
-from parties import ALL_OF_8, drawn_parties, guests_of, parties_of_up_to_four, path, ring
+from parties import ALL_OF_8, all_who_could_come, drawn_parties, friends_among, guests_of
+from parties import parties_of_up_to_four, path, ring
 from whocomes.party import comes
 
 
 def comes_by_the_words(n, k, sure, pairs):
     """The document's words over sets, to hold the program's answers against."""
-    friends = {guest: set() for guest in range(n)}
-    for one, other in zip(pairs[::2], pairs[1::2]):
-        friends[one].add(other)
-        friends[other].add(one)
+    friends = friends_among(n, pairs)
     coming = set(range(n))
     rounds = 0
     while True:
@@ -22,19 +20,6 @@ def comes_by_the_words(n, k, sure, pairs):
             return [len(coming), sum(1 << g for g in coming), rounds]
         coming -= cancel
         rounds += 1
-
-
-def greatest_group(n, k, sure, pairs):
-    """The guests of all groups in which, with who is sure, each finds enough: as bits, without rounds."""
-    told = list(zip(pairs[::2], pairs[1::2]))
-    joined = 0
-    for bits in range(1 << n):
-        group = {g for g in range(n) if bits >> g & 1}
-        if sure <= group and all(
-            g in sure or sum((g, o) in told or (o, g) in told for o in group) >= k for g in group
-        ):
-            joined |= bits
-    return joined
 
 
 class OrdinaryInputs(unittest.TestCase):
@@ -149,7 +134,7 @@ class AgainstTheWords(unittest.TestCase):
             sure = guests_of(bits)
             answer = comes(n, k, bits, pairs)
             self.assertEqual(answer, comes_by_the_words(n, k, sure, pairs), (n, k, bits, pairs))
-            self.assertEqual(answer[1], greatest_group(n, k, sure, pairs), (n, k, bits, pairs))
+            self.assertEqual(guests_of(answer[1]), all_who_could_come(n, k, sure, pairs), (n, k, bits, pairs))
 
     def test_many_parties_of_up_to_eight(self):
         for n, k, bits, pairs in drawn_parties(3000):

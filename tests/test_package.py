@@ -5,10 +5,11 @@ import pathlib
 import unittest
 
 import whocomes
+from parties import ALL_OF_8, path, ring
 from whocomes import party
 
 FOLDER = pathlib.Path(whocomes.__file__).parent
-FUNCTIONS = ("comes", "cancels", "depth")
+FUNCTIONS = ("comes", "cancels", "depth", "sure")
 
 
 class ThePackage(unittest.TestCase):
@@ -30,6 +31,21 @@ class ThePackage(unittest.TestCase):
         for name in FUNCTIONS:
             function = getattr(party, name)
             self.assertEqual((function.__module__, function.__name__), ("whocomes.party", name))
+
+    def test_no_call_leaves_anything_to_another(self):
+        def answers():
+            return [
+                answer
+                for n, k, bits, pairs in ((4, 2, 9, path(4)), (8, 3, 0, ALL_OF_8), (5, 2, 1, ring(5)), (9, 1, 0, []))
+                for answer in (party.comes(n, k, bits, pairs), party.cancels(n, k, bits, pairs),
+                               party.sure(n, k, bits, pairs), party.depth(n, pairs))
+            ]
+
+        first = answers()
+        for answer in answers():
+            # Whoever changes an answer must not change the next one.
+            answer.clear()
+        self.assertEqual(first, answers())
 
 
 if __name__ == "__main__":

@@ -117,3 +117,19 @@ def depth(n, pairs):
         asked = asked - 1
         coming = who_comes(asked, NOBODY, known)
     return [asked, coming]
+
+
+def sure(n, k, sure_bits, pairs):
+    """Answer the guest who, made sure as well, brings most to come; then how many come then."""
+    if not party_is_right(n, pairs) or not terms_are_right(n, k, sure_bits):
+        return [REFUSAL]
+    known = acquaintances(n, pairs)
+    best = 0
+    most = 0
+    for guest in range(n):
+        count = how_many(who_comes(k, sure_bits | (1 << guest), known))
+        # Only more than before will do, so of like ones the least stays.
+        if count > most:
+            best = guest
+            most = count
+    return [best, most]
